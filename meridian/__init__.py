@@ -1,0 +1,1 @@
+"""Meridian: a distributed transactional store with clocks of bounded uncertainty."""

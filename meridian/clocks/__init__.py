@@ -1,0 +1,1 @@
+"""Clocks whose error is bounded, and the spans that they show."""

@@ -1,0 +1,1 @@
+"""How numbers, texts and blocks are written as bytes."""
