@@ -4,7 +4,7 @@ import unittest
 
 from meridian.errors import BadBytes, BadSeal
 from meridian.wire.seals import checksum, open_seal, seal
-from tests.helpers import dice, error_of
+from tests.helpers import dice, error_of, plain_checksum
 
 
 def blocks():
@@ -13,14 +13,6 @@ def blocks():
     for size in range(10):
         found = found + [[source.randrange(256) for _ in range(size)] for _ in range(4)]
     return found + [[byte] for byte in range(256)]
-
-
-def plain_checksum(block):
-    """Work the checksum out from the powers of 31, without a remainder on the way."""
-    total = 7 * 31 ** len(block)
-    for place, byte in enumerate(block):
-        total += (byte + 1) * 31 ** (len(block) - 1 - place)
-    return total % 16000057
 
 
 class SealsTest(unittest.TestCase):

@@ -1,0 +1,1 @@
+"""Disks, the records and notes that stand on them, and journals."""
