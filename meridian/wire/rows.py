@@ -1,8 +1,23 @@
-"""Ascending keys, and pairs (key, value) with ascending keys, as blocks (points 15 and 21)."""
+"""Keys, ascending keys, and pairs (key, value) with ascending keys, as blocks (points 15 and 21)."""
 
 from meridian.errors import BadArgument, BadBytes
 from meridian.wire.texts import decode_text, decode_texts, encode_text, encode_texts
 from meridian.wire.varints import decode_number, decode_value, encode_number, encode_value
+
+
+def encode_key(key):
+    """Return the block of a key."""
+    if key == "":
+        raise BadArgument("a key must not be empty")
+    return encode_text(key)
+
+
+def decode_key(block, at):
+    """Return the key whose encoding begins at an index, and the index behind it."""
+    key, behind = decode_text(block, at)
+    if key == "":
+        raise BadBytes("a key is empty")
+    return key, behind
 
 
 def encode_keys(keys):

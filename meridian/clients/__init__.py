@@ -1,0 +1,1 @@
+"""How keys are divided among groups."""

@@ -1,0 +1,1 @@
+"""What the records of a group mean: cells, and the state of a group."""

@@ -1,0 +1,1 @@
+"""Letters, and the network that carries them."""
