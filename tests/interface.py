@@ -67,11 +67,41 @@ FUNCTIONS = {
         "check_cuts": "(cuts)",
         "group_of_key": "(cuts, key)",
     },
+    "meridian.world.judge": {
+        "time_order": "(deeds)",
+        "replay": "(deeds, order)",
+        "respects": "(deeds, order)",
+        "times_agree": "(deeds)",
+        "is_consistent": "(deeds)",
+        "find_order": "(deeds)",
+        "seen_by": "(deeds, index)",
+    },
+    "meridian.views.snapshots": {
+        "known_time": "(cluster, node)",
+        "peek": "(cluster, node, key, time)",
+        "settled_time": "(cluster)",
+        "best_replica": "(cluster, group)",
+        "snapshot": "(cluster, time)",
+    },
+    "meridian.views.stages": {
+        "fill_program": "(table, primary, number)",
+        "purge_program": "(table, primary, number)",
+        "orphans": "(table, pairs)",
+        "lacking": "(table, pairs)",
+        "holds_at": "(table, low, pairs)",
+    },
+}
+
+CONSTANTS = {
+    "meridian.wire.texts": {"ALPHABET": "abcdefghijklmnopqrstuvwxyz0123456789./"},
+    "meridian.quorum.replicas": {"FOLLOWER": "follower", "CANDIDATE": "candidate", "LEADER": "leader"},
+    "meridian.views.stages": {"ABSENT": 0, "DELETE": 1, "WRITE": 2, "PUBLIC": 3},
 }
 
 ERRORS = ("MeridianError", "BadArgument", "BadBytes", "BadSeal", "Refused")
 
-# A method has its arguments, a property the word "property".
+# A method has its arguments, with the word "class" or "static" before them if it is such a one, a property the word
+# "property".
 CLASSES = {
     "meridian.clocks.spans": {
         "Span": {
@@ -246,6 +276,135 @@ CLASSES = {
             "handle": "(self, sender, letter, span)",
             "close": "(self, span)",
             "ask": "(self, txn)",
+        },
+    },
+    "meridian.clients.clients": {
+        "Client": {
+            "__init__": "(self, txn, program, cuts)",
+            "phase": "property",
+            "result": "property",
+            "txn": "property",
+            "got": "(self)",
+            "prepared": "(self)",
+            "push": "(self)",
+            "receive": "(self, letter)",
+        },
+    },
+    "meridian.clients.readers": {
+        "Reader": {
+            "__init__": "(self, number, keys, cuts)",
+            "phase": "property",
+            "time": "property",
+            "number": "property",
+            "got": "(self)",
+            "push": "(self, span)",
+            "receive": "(self, letter)",
+        },
+    },
+    "meridian.world.cluster": {
+        "Cluster": {
+            "__init__": "(self, programs, lookups, *, cuts=(), size=3, bound=5)",
+            "now": "property",
+            "nodes": "property",
+            "steps": "property",
+            "client": "(self, index)",
+            "reader": "(self, index)",
+            "service": "(self, node)",
+            "tick": "(self, by)",
+            "drift": "(self, address, offset)",
+            "stand": "(self, node)",
+            "flush": "(self, node)",
+            "deliver": "(self, index)",
+            "lose": "(self, index)",
+            "double": "(self, index)",
+            "damage": "(self, index, at, add)",
+            "crash": "(self, node, keep=0, last=None)",
+            "restart": "(self, node)",
+            "send": "(self, node, to)",
+            "lease": "(self, node, length)",
+            "close": "(self, node)",
+            "ask": "(self, node, txn)",
+            "push": "(self, client)",
+            "look": "(self, reader)",
+            "chronicle": "(self, group)",
+            "state": "(self, group)",
+            "committed": "(self)",
+            "span_of_client": "(self, client)",
+            "span_of_reader": "(self, reader)",
+            "history": "(self)",
+        },
+    },
+    "meridian.world.operator": {
+        "Operator": {
+            "__init__": "(self, cluster)",
+            "wake": "(self)",
+            "exchange": "(self)",
+            "pass_time": "(self)",
+            "level": "(self)",
+            "spread": "(self)",
+            "elect": "(self)",
+            "chief": "(self, group)",
+            "release": "(self, *, spare=None)",
+            "finish": "(self, client)",
+            "see": "(self, reader)",
+            "settle": "(self)",
+        },
+    },
+    "meridian.views.feeds": {
+        "Feed": {
+            "__init__": "(self)",
+            "done": "property",
+            "pull": "(self, cluster)",
+        },
+    },
+    "meridian.views.backups": {
+        "Backup": {
+            "__init__": "(self, time, rows)",
+            "moment": "property",
+            "rows": "(self)",
+            "advanced": "(self, changes, upto)",
+            "pack": "(self)",
+            "unpack": "class (cls, block)",
+            "taken": "static (cluster, time)",
+        },
+    },
+    "meridian.views.tables": {
+        "Table": {
+            "__init__": "(self, name)",
+            "row_key": "(self, primary)",
+            "entry_key": "(self, primary, number)",
+            "insert": "(self, primary, number)",
+            "update": "(self, primary, old, new)",
+            "delete": "(self, primary, old)",
+            "rows": "(self, pairs)",
+            "entries": "(self, pairs)",
+            "agrees": "(self, pairs)",
+            "between": "(self, pairs, low, high)",
+        },
+    },
+    "meridian.views.stages": {
+        "StagedTable": {
+            "__init__": "(self, table, stage)",
+            "stage": "property",
+            "insert": "(self, primary, number)",
+            "update": "(self, primary, old, new)",
+            "delete": "(self, primary, old)",
+        },
+    },
+    "meridian.views.changes": {
+        "Change": {
+            "__init__": "(self, table, servers, rows)",
+            "stages": "(self)",
+            "rows": "(self)",
+            "cursor": "property",
+            "needed": "property",
+            "insert": "(self, server, primary, number)",
+            "update": "(self, server, primary, old, new)",
+            "delete": "(self, server, primary, old)",
+            "raise_stage": "(self, server)",
+            "lower_stage": "(self, server)",
+            "fill": "(self, many)",
+            "purge": "(self, many)",
         },
     },
 }

@@ -4,7 +4,7 @@ import importlib
 import inspect
 import unittest
 
-from tests.interface import CLASSES, ERRORS, FUNCTIONS
+from tests.interface import CLASSES, CONSTANTS, ERRORS, FUNCTIONS
 
 
 class InterfaceTest(unittest.TestCase):
@@ -23,6 +23,13 @@ class InterfaceTest(unittest.TestCase):
         for name in ERRORS:
             self.assertEqual(getattr(module, name).__module__, "meridian.errors")
 
+    def test_constants(self):
+        for place, constants in CONSTANTS.items():
+            module = importlib.import_module(place)
+            for name, value in constants.items():
+                self.assertEqual(getattr(module, name), value)
+                self.assertIs(type(getattr(module, name)), type(value))
+
     def test_classes(self):
         for place, classes in CLASSES.items():
             module = importlib.import_module(place)
@@ -35,6 +42,10 @@ class InterfaceTest(unittest.TestCase):
     def check_member(self, member, arguments, name):
         if arguments == "property":
             self.assertIsInstance(member, property, name)
+        elif arguments.startswith(("class ", "static ")):
+            word, arguments = arguments.split(" ", 1)
+            self.assertIsInstance(member, classmethod if word == "class" else staticmethod, name)
+            self.assertEqual(str(inspect.signature(member.__func__)), arguments, name)
         else:
             self.assertEqual(str(inspect.signature(member)), arguments, name)
 

@@ -1,1 +1,1 @@
-"""How keys are divided among groups."""
+"""Clients and readers, and how keys are divided among groups."""

@@ -1,8 +1,9 @@
-"""Keys, ascending keys, and pairs (key, value) with ascending keys, as blocks (points 15 and 21)."""
+"""Keys, ascending keys, and pairs with ascending keys, as blocks (points 15, 21 and 57)."""
 
 from meridian.errors import BadArgument, BadBytes
 from meridian.wire.texts import decode_text, decode_texts, encode_text, encode_texts
-from meridian.wire.varints import decode_number, decode_value, encode_number, encode_value
+from meridian.wire.varints import (
+    decode_number, decode_signed, decode_value, encode_number, encode_signed, encode_value)
 
 
 def encode_key(key):
@@ -57,6 +58,30 @@ def decode_writes(block, at):
     if not _are_ascending([key for key, _ in writes]):
         raise BadBytes("the keys of the writes are not ascending, or one of them is empty")
     return tuple(writes), behind
+
+
+def encode_rows(rows):
+    """Return the block of a tuple of pairs (key, number) with ascending keys."""
+    if not _are_ascending([key for key, _ in rows]):
+        raise BadArgument("the keys of the rows must be ascending and not empty")
+    block = encode_number(len(rows))
+    for key, number in rows:
+        block.extend(encode_text(key))
+        block.extend(encode_signed(number))
+    return block
+
+
+def decode_rows(block, at):
+    """Return the tuple of the rows whose encoding begins at an index, and the index behind it."""
+    many, behind = decode_number(block, at)
+    rows = []
+    while len(rows) < many:
+        key, behind = decode_text(block, behind)
+        number, behind = decode_signed(block, behind)
+        rows.append((key, number))
+    if not _are_ascending([key for key, _ in rows]):
+        raise BadBytes("the keys of the rows are not ascending, or one of them is empty")
+    return tuple(rows), behind
 
 
 def _are_ascending(keys):

@@ -1,0 +1,1 @@
+"""What can be seen of a cluster without locks, and tables with an index."""
